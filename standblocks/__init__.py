@@ -1,0 +1,1 @@
+"""Rival supporter separation: maximum-weight allocation of stadium blocks."""

@@ -1,0 +1,9 @@
+"""The numbers that refused operations answer."""
+
+NO_SUCH_BLOCK = -2
+NOTHING_TO_REMOVE = -6
+NO_PLANNER = -11
+ALREADY_ADJACENT = -17
+OUT_OF_RANGE = -22
+TOO_MANY_BLOCKS = -28
+NO_ALLOCATION = -33
