@@ -1,13 +1,15 @@
-"""The search for the best allocation of a stadium."""
+"""The valid allocations of a stadium, the best of them, and the seats in the blocks of each use."""
 
 from standblocks.terms import ANY_USE, AWAY, CLOSED, EMPTY, HOME
 
 
-def find_best(stadium):
-    """The best allocation, or None if there is no valid one."""
+def find_best(stadium, min_away):
+    """The best allocation with at least so many away seats, or None if there is no such one."""
     best = None
     most = 0
     for allocation in valid_allocations(stadium):
+        if count_seats(stadium, allocation, AWAY) < min_away:
+            continue
         sold = count_sold(stadium, allocation)
         # The lexicographically smallest comes first, so one that sells no more doesn't replace it.
         if best is None or sold > most:
@@ -65,4 +67,9 @@ def are_rivals(first_use, second_use):
 
 def count_sold(stadium, allocation):
     """The seats of all blocks that the allocation doesn't leave empty."""
-    return sum([stadium.seats[block] for block in range(len(allocation)) if allocation[block] != EMPTY])
+    return count_seats(stadium, allocation, HOME) + count_seats(stadium, allocation, AWAY)
+
+
+def count_seats(stadium, allocation, use):
+    """The seats of all blocks with this use."""
+    return sum([stadium.seats[block] for block in range(len(allocation)) if allocation[block] == use])

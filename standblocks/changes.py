@@ -3,8 +3,10 @@
 Each answers a list: what the operation returns, or a refusal alone.
 """
 
-from standblocks.refusals import ALREADY_ADJACENT, NO_SUCH_BLOCK, NOTHING_TO_REMOVE, OUT_OF_RANGE, TOO_MANY_BLOCKS
-from standblocks.terms import ANY_USE, AWAY, CLOSED, HOME, MOST_BLOCKS, MOST_SEATS
+from standblocks.allocations import count_sold, find_best
+from standblocks.refusals import ALREADY_ADJACENT, NO_ALLOCATION, NO_SUCH_BLOCK
+from standblocks.refusals import NOTHING_TO_REMOVE, OUT_OF_RANGE, TOO_MANY_BLOCKS
+from standblocks.terms import ANY_USE, AWAY, CLOSED, EMPTY, HOME, MOST_BLOCKS, MOST_SEATS
 
 
 def add_block(stadium, seats):
@@ -87,3 +89,19 @@ def other_side(assignment):
     if assignment == AWAY:
         return HOME
     return assignment
+
+
+def fix_best(stadium):
+    """Allow each block its use in the best allocation alone; answer the sold seats."""
+    best = find_best(stadium, 0)
+    if best is None:
+        return [NO_ALLOCATION]
+    stadium.assignments = [fixed_assignment(use) for use in best]
+    return [count_sold(stadium, best)]
+
+
+def fixed_assignment(use):
+    """The assignment that allows this use alone."""
+    if use == EMPTY:
+        return CLOSED
+    return use

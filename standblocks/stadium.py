@@ -25,3 +25,12 @@ class Stadium:
     def adjacent_blocks(self, block):
         """The blocks adjacent to this one, in increasing order."""
         return [other for other in range(len(self.seats)) if self.are_adjacent(block, other)]
+
+    def reassigned(self, block, assignment):
+        """Another stadium, like this one but for the assignment of the block."""
+        other = Stadium()
+        other.seats = list(self.seats)
+        other.assignments = list(self.assignments)
+        other.assignments[block] = assignment
+        other.pairs = list(self.pairs)
+        return other

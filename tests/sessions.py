@@ -1,6 +1,7 @@
 """What the tests share: sessions written call by call, and a plain search of their own."""
 
 import itertools
+import unittest
 
 from standblocks.planner import answers
 
@@ -17,17 +18,35 @@ NUMBERS = {
     "neighbors": 9,
     "best_allocation": 10,
     "empty_seats": 11,
+    "best_with_away": 12,
+    "max_away": 13,
+    "is_valid": 14,
+    "sold_seats": 15,
+    "join": 16,
+    "meet": 17,
+    "sold_if_assigned": 18,
+    "sold_if_closed": 19,
+    "count_valid": 20,
+    "fix_best": 21,
+    "get_state": 22,
 }
 
 LARGEST = 4294967295
+LARGEST_IN_LISTS = 65535
+MOST_CALLS = 256
 
 
 def flatten(calls):
-    """The one list that is handed in for calls such as ("add_block", 10)."""
+    """The one list that is handed in for calls such as ("add_block", 10) or ("is_valid", [0, 1])."""
     flat = []
     for name, *arguments in calls:
         flat.append(NUMBERS[name])
-        flat.extend(arguments)
+        for argument in arguments:
+            if isinstance(argument, int):
+                flat.append(argument)
+            else:
+                flat.append(len(argument))
+                flat.extend(argument)
     return flat
 
 
@@ -47,6 +66,8 @@ def split(flat):
 
 def ask(*calls):
     """The answers to the calls, a list each."""
+    if len(calls) > MOST_CALLS:
+        raise AssertionError(f"{len(calls)} calls in one session")
     parts = split(answers(flatten(calls)))
     if len(parts) != len(calls):
         raise AssertionError(f"{len(parts)} answers to {len(calls)} calls")
@@ -56,6 +77,15 @@ def ask(*calls):
 def ask_last(*calls):
     """The answer to the last of the calls."""
     return ask(*calls)[-1]
+
+
+def ask_behind(before, calls):
+    """The answers to calls that change nothing, in as many sessions as they need, each begun the same."""
+    room = MOST_CALLS - len(before)
+    given = []
+    for start in range(0, len(calls), room):
+        given += ask(*before, *calls[start:start + room])[len(before):]
+    return given
 
 
 def build(seats, assignments=None, pairs=()):
@@ -72,6 +102,28 @@ def view(block_count):
     return [("list_blocks",)] + [("neighbors", block) for block in range(block_count)]
 
 
+class RefusalTest(unittest.TestCase):
+    """A test that asks for refusals which leave no trace."""
+
+    def check_refused(self, before, call, code, block_count):
+        """The call answers the code alone, and what the planner shows is as it was."""
+        with self.subTest(call=call, before=before):
+            shown = [*view(block_count), ("get_state",), ("best_allocation",), ("empty_seats",), ("count_valid",)]
+            kept = ask(*before, *shown)[len(before):]
+            given = ask(*before, call, *shown)[len(before):]
+            self.assertEqual(given, [[code], *kept])
+
+
+def every_allocation(count):
+    """All lists of uses of so many blocks, in lexicographic order."""
+    return [list(uses) for uses in itertools.product((0, 1, 2), repeat=count)]
+
+
+def is_separated(uses, pairs):
+    """Whether no home block is adjacent to an away block."""
+    return all({uses[i], uses[j]} != {1, 2} for i, j in pairs)
+
+
 def is_valid(uses, assignments, pairs):
     """Whether an allocation is valid, straight from the document's terms."""
     for use, assignment in zip(uses, assignments):
@@ -79,19 +131,31 @@ def is_valid(uses, assignments, pairs):
             return False
         if assignment == 3 and use != 0:
             return False
-    return all({uses[i], uses[j]} != {1, 2} for i, j in pairs)
+    return is_separated(uses, pairs)
 
 
-def search_best(seats, assignments, pairs):
-    """The due answer of best_allocation, from a look at every list of uses."""
-    due = None
-    for uses in itertools.product((0, 1, 2), repeat=len(seats)):
-        if not is_valid(uses, assignments, pairs):
-            continue
-        sold = sum(number for number, use in zip(seats, uses) if use != 0)
-        if due is None or (-sold, uses) < (-due[0], tuple(due[1:])):
-            due = [sold, *uses]
-    return due or [-33]
+def seats_of(seats, uses, *counted):
+    """The seats of the blocks whose use is one of those that are counted."""
+    return sum(number for number, use in zip(seats, uses) if use in counted)
+
+
+def search_valid(seats, assignments, pairs):
+    """All valid allocations, from a look at every list of uses."""
+    return [uses for uses in every_allocation(len(seats)) if is_valid(uses, assignments, pairs)]
+
+
+def best_of(seats, valid, min_away):
+    """The due answer of best_with_away where these are the valid allocations."""
+    enough = [uses for uses in valid if seats_of(seats, uses, 2) >= min_away]
+    if not enough:
+        return [-33]
+    sold, uses = min((-seats_of(seats, uses, 1, 2), uses) for uses in enough)
+    return [-sold, *uses]
+
+
+def search_best(seats, assignments, pairs, min_away=0):
+    """The due answer of best_with_away."""
+    return best_of(seats, search_valid(seats, assignments, pairs), min_away)
 
 
 def search_empty(seats, assignments, pairs):
@@ -99,4 +163,25 @@ def search_empty(seats, assignments, pairs):
     due = search_best(seats, assignments, pairs)
     if due == [-33]:
         return due
-    return [sum(number for number, use in zip(seats, due[1:]) if use == 0)]
+    return [seats_of(seats, due[1:], 0)]
+
+
+def search_max_away(seats, assignments, pairs):
+    """The due answer of max_away."""
+    return [max((seats_of(seats, uses, 2) for uses in search_valid(seats, assignments, pairs)), default=-33)]
+
+
+def search_sold_if(seats, assignments, pairs, block, assignment):
+    """The due answer of sold_if_assigned."""
+    changed = [*assignments[:block], assignment, *assignments[block + 1:]]
+    return search_best(seats, changed, pairs)[:1]
+
+
+def join_of(first, second):
+    """The join of two allocations, block by block from the document's terms."""
+    return [1 if 1 in both else 2 if both == (2, 2) else 0 for both in zip(first, second)]
+
+
+def meet_of(first, second):
+    """The meet of two allocations, block by block from the document's terms."""
+    return [2 if 2 in both else 1 if both == (1, 1) else 0 for both in zip(first, second)]

@@ -2,22 +2,12 @@
 
 import unittest
 
-from sessions import LARGEST, ask, ask_last, build, view
+from sessions import LARGEST, RefusalTest, ask, ask_last, build, view
 
 FULL = [11, 12, 13, 14, 15, 16]
 
 
-class ChangeTest(unittest.TestCase):
-    def check_refused(self, before, call, code, block_count):
-        """The call answers the code alone, and what the planner shows is as it was."""
-        with self.subTest(call=call, before=before):
-            shown = [*view(block_count), ("best_allocation",), ("empty_seats",)]
-            kept = ask(*before, *shown)[len(before):]
-            given = ask(*before, call, *shown)[len(before):]
-            self.assertEqual(given, [[code], *kept])
-
-
-class AddBlock(ChangeTest):
+class AddBlock(RefusalTest):
     def test_numbers_in_order(self):
         self.assertEqual(ask(*build(FULL)), [[0], [0], [1], [2], [3], [4], [5]])
 
@@ -50,7 +40,7 @@ class AddBlock(ChangeTest):
         self.assertEqual(given[-3:], [[5], [5], [-28]])
 
 
-class RemoveLastBlock(ChangeTest):
+class RemoveLastBlock(RefusalTest):
     def test_how_many_are_left(self):
         calls = build(FULL)
         given = ask(*calls, *[("remove_last_block",)] * 7)
@@ -81,7 +71,7 @@ class RemoveLastBlock(ChangeTest):
                          [[2], [2], [3, 1, 1, 2, 0, 9, 0], [1, 1], [1, 0], [0], [-6], [2]])
 
 
-class SetSeats(ChangeTest):
+class SetSeats(RefusalTest):
     def test_the_previous_number_is_answered(self):
         given = ask(*build([4, 5]), ("set_seats", 1, 7), ("set_seats", 1, 8), ("set_seats", 1, 8), ("list_blocks",))
         self.assertEqual(given[-4:], [[5], [7], [8], [2, 4, 0, 8, 0]])
@@ -117,7 +107,7 @@ class SetSeats(ChangeTest):
         self.assertEqual(given[len(calls):], [[9, 1, 1], [5], [4, 1, 0]])
 
 
-class Assign(ChangeTest):
+class Assign(RefusalTest):
     def test_the_previous_assignment_is_answered(self):
         calls = build([4, 5])
         steps = [("assign", 1, assignment) for assignment in (1, 2, 3, 3, 0, 3)]
@@ -151,7 +141,7 @@ class Assign(ChangeTest):
         self.assertEqual(ask(*build([4, 5], [1, 2], [(0, 1)])), [[0], [0], [1], [0], [0], [1]])
 
 
-class Connect(ChangeTest):
+class Connect(RefusalTest):
     def test_the_number_of_pairs_is_answered(self):
         calls = build([1, 2, 3])
         given = ask(*calls, ("connect", 0, 1), ("connect", 2, 1), ("connect", 2, 0), *view(3)[1:])
@@ -188,7 +178,7 @@ class Connect(ChangeTest):
         self.check_refused(build([]), ("connect", 0, 0), -2, 0)
 
 
-class Disconnect(ChangeTest):
+class Disconnect(RefusalTest):
     def test_the_number_of_pairs_is_answered(self):
         calls = build([1, 2, 3], None, [(0, 1), (1, 2), (0, 2)])
         given = ask(*calls, ("disconnect", 1, 2), ("disconnect", 1, 0), *view(3)[1:], ("disconnect", 0, 2))
@@ -230,7 +220,7 @@ class Disconnect(ChangeTest):
         self.assertEqual(given[len(calls):], [[-33], [0], [9, 2, 1]])
 
 
-class SwapTeams(ChangeTest):
+class SwapTeams(RefusalTest):
     def test_home_and_away_are_exchanged(self):
         calls = build([4, 5, 6, 7], [0, 1, 2, 3], [(0, 1), (2, 3)])
         given = ask(*calls, ("swap_teams",), *view(4))

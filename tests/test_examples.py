@@ -1,4 +1,4 @@
-"""The document's examples, as far as the calls that are there make them up."""
+"""The document's examples, whole."""
 
 import unittest
 
@@ -22,6 +22,9 @@ class Examples(unittest.TestCase):
             (("assign", 2, 2), [0]),
             (("best_allocation",), [18, 1, 0, 2]),
             (("empty_seats",), [5]),
+            (("count_valid",), [1]),
+            (("sold_if_closed", 0), [13]),
+            (("sold_if_assigned", 2, 0), [23]),
         )
 
     def test_two_best_allocations(self):
@@ -31,6 +34,13 @@ class Examples(unittest.TestCase):
             (("add_block", 4), [1]),
             (("connect", 0, 1), [1]),
             (("best_allocation",), [8, 1, 1]),
+            (("best_with_away", 1), [8, 2, 2]),
+            (("join", [1, 1], [2, 2]), [2, 1, 1]),
+            (("meet", [1, 1], [2, 2]), [2, 2, 2]),
+            (("is_valid", [1, 2]), [0]),
+            (("sold_seats", [1, 2]), [8, 4, 4]),
+            (("fix_best",), [8]),
+            (("max_away",), [0]),
         )
 
     def test_errors(self):
@@ -46,6 +56,7 @@ class Examples(unittest.TestCase):
             (("assign", 0, 1), [0]),
             (("assign", 1, 2), [0]),
             (("best_allocation",), [-33]),
+            (("is_valid", [0]), [-22]),
         )
 
 

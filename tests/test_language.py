@@ -114,6 +114,16 @@ class Language(unittest.TestCase):
             if node.id in dir(builtins):
                 self.assertIn(node.id, BUILT_IN, place)
 
+    def test_no_local_is_called_like_an_import_or_a_class(self):
+        for path, tree in self.trees.items():
+            tops = {name.name for node in tree.body if isinstance(node, ast.ImportFrom) for name in node.names}
+            tops |= {node.name for node in tree.body if isinstance(node, ast.ClassDef)}
+            for function in [node for node in ast.walk(tree) if isinstance(node, ast.FunctionDef)]:
+                inside = {node.arg for node in ast.walk(function) if isinstance(node, ast.arg)}
+                inside |= {node.id for node in ast.walk(function)
+                           if isinstance(node, ast.Name) and isinstance(node.ctx, ast.Store)}
+                self.assertEqual(inside & tops, set(), f"{path.name}:{function.lineno}")
+
     def test_methods_are_known(self):
         own = {node.name for _, node in self.walk(ast.FunctionDef)}
         for place, node in self.walk(ast.Call):
